@@ -80,10 +80,7 @@ func Gcd(a int, b int) int {
 	if !isSmall(a) || !isSmall(b) {
 		return 0
 	}
-	for b != 0 {
-		a, b = b, a%b
-	}
-	return withoutSign(a)
+	return greatestDivisor(a, b)
 }
 
 func Lcm(a int, b int) int {
@@ -129,6 +126,14 @@ func isDigit(sign rune) bool {
 
 func isLetter(sign rune) bool {
 	return 'A' <= sign && sign <= 'Z' || 'a' <= sign && sign <= 'z'
+}
+
+// greatestDivisor is Gcd of numbers of any size but the least int.
+func greatestDivisor(a, b int) int {
+	for b != 0 {
+		a, b = b, a%b
+	}
+	return withoutSign(a)
 }
 
 // isSmall is asked ahead of withoutSign: the least int has no other sign.
