@@ -1125,14 +1125,16 @@ func formulaOfBytes(t *testing.T, bytes int) impl.Expr {
 	return e
 }
 
-func TestFormulasAtMaxWords(t *testing.T) {
-	tower := func(p int) impl.Expr {
-		e := ePow(eVar("v"), p, 2)
-		for range 9 {
-			e = ePow(e, -1, 2)
-		}
-		return e
+// tower is a power of powers, made of many words; below 0 of one more.
+func tower(p int) impl.Expr {
+	e := ePow(eVar("v"), p, 2)
+	for range 9 {
+		e = ePow(e, -1, 2)
 	}
+	return e
+}
+
+func TestFormulasAtMaxWords(t *testing.T) {
 	down, up := tower(-1), tower(1)
 	for _, c := range []struct {
 		e     impl.Expr

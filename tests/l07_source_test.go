@@ -961,6 +961,21 @@ func TestFormulasAtMaxTextComeBackFromTheirLines(t *testing.T) {
 	}
 }
 
+func TestFormulasAtMaxWordsInLines(t *testing.T) {
+	down, up := tower(-1), tower(1)
+	for words, last := range map[int]impl.Expr{200: up, 201: down} {
+		s := impl.Stmt{Kind: impl.SForm, Name: "e", Expr: eTwo("+", eTwo("+", down, down), eTwo("+", down, last))}
+		checkRightStmt(t, s)
+		text := impl.ShowLine(s)
+		if words <= impl.MaxWords {
+			checkSaid(t, text, text)
+		} else {
+			checkCode(t, text, impl.PaExpr)
+			checkFault(t, "\n"+text, impl.PaExpr, 2)
+		}
+	}
+}
+
 func TestChanceTextsOfLines(t *testing.T) {
 	r := rand.New(rand.NewSource(73))
 	for _, s := range append(sampleTexts(), formulaTexts()...) {
