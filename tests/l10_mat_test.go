@@ -1213,20 +1213,21 @@ type matCall struct {
 }
 
 type matAnswer struct {
-	mat  impl.Mat
-	det  impl.Big
-	n    int
-	ok   bool
-	text string
+	mat   impl.Mat
+	other impl.Mat
+	det   impl.Big
+	n     int
+	ok    bool
+	text  string
 }
 
 func sameMatAnswer(a matAnswer, b matAnswer) bool {
-	return sameMat(a.mat, b.mat) && sameBig(a.det, b.det) && a.n == b.n && a.ok == b.ok && a.text == b.text
+	return sameMat(a.mat, b.mat) && sameMat(a.other, b.other) && sameBig(a.det, b.det) && a.n == b.n && a.ok == b.ok && a.text == b.text
 }
 
 func (a matAnswer) spans() []span {
-	list := []span{spanOf(a.mat.At), spanOf(a.det.Limbs), spanOfText(a.text)}
-	for _, x := range a.mat.At {
+	list := []span{spanOf(a.mat.At), spanOf(a.other.At), spanOf(a.det.Limbs), spanOfText(a.text)}
+	for _, x := range slices.Concat(a.mat.At, a.other.At) {
 		list = append(list, spanOf(x.Limbs))
 	}
 	return slices.DeleteFunc(list, func(s span) bool { return s.from == s.to })
@@ -1234,10 +1235,12 @@ func (a matAnswer) spans() []span {
 
 func (a matAnswer) overwrite() {
 	scribble(wholeRoom(a.det))
-	at := a.mat.At[:cap(a.mat.At)]
-	for i, x := range at {
-		scribble(wholeRoom(x))
-		at[i] = impl.FromInt(77)
+	for _, m := range []impl.Mat{a.mat, a.other} {
+		at := m.At[:cap(m.At)]
+		for i, x := range at {
+			scribble(wholeRoom(x))
+			at[i] = impl.FromInt(77)
+		}
 	}
 }
 
@@ -1287,8 +1290,8 @@ func checkMatMemory(t *testing.T, name string, call func(c matCall) matAnswer, c
 	}
 }
 
-func TestMatricesAreNeitherKeptNorWrittenInto(t *testing.T) {
-	r := rand.New(rand.NewSource(111))
+// someMatCalls has right arguments and wrong ones.
+func someMatCalls(r *rand.Rand) []matCall {
 	var list []matCall
 	for _, s := range []string{"7", "0", "-7", "1 2, 3 4", "0 1, 1 0", "1 0, 0 1", "1 2, 2 4", "0 2 1, 3 0 5, 1 1 1", "0 0, 0 0", "2^256-1 1, 1 2^256-1", "2^255 2^255, 1 1", "1 2 3, 4 5 6", "1, 2, 3", "0 0 1, 0 1 0, 1 0 0"} {
 		m := matOfText(s)
@@ -1302,6 +1305,11 @@ func TestMatricesAreNeitherKeptNorWrittenInto(t *testing.T) {
 		b := chanceMat(r, a.Cols, chanceSide(r))
 		list = append(list, matCall{a, b, [][]int{manyInts(3, r.Int()), manyInts(3, -r.Int())}, r.Intn(9)}, matCall{spoiledMat(r, a), spoiledMat(r, b), [][]int{{1}, {2, 3}}, r.Intn(20) - 5})
 	}
+	return list
+}
+
+func TestMatricesAreNeitherKeptNorWrittenInto(t *testing.T) {
+	list := someMatCalls(rand.New(rand.NewSource(111)))
 	for name, call := range matCalls() {
 		for _, c := range list {
 			checkMatMemory(t, name, call, c)
@@ -1311,14 +1319,20 @@ func TestMatricesAreNeitherKeptNorWrittenInto(t *testing.T) {
 
 // The numbers of a matrix may share their Limbs, two matrices their numbers, and rows be cut from one list: what is told shares none of them.
 func TestMatricesShareNoMemoryWhereArgumentsDo(t *testing.T) {
-	limbs := []uint32{5, 6, 7, 7}
-	x := impl.Big{Limbs: limbs[:2]}
+	checkMatSharing(t, []uint32{5, 6, 7, 7}, 2, matCalls())
+}
+
+// checkMatSharing has all numbers be the first so many of the limbs.
+func checkMatSharing(t *testing.T, limbs []uint32, n int, calls map[string]func(c matCall) matAnswer) {
+	t.Helper()
+	kept := slices.Clone(limbs)
+	x := impl.Big{Limbs: limbs[:n]}
 	at := []impl.Big{x, x, x, x, x, x}
 	ints := []int{4, 5, 6, 7}
 	rows := [][]int{ints[:2], ints[:2], ints[1:3]}
 	for _, m := range []impl.Mat{{Rows: 1, Cols: 1, At: at[:1]}, {Rows: 2, Cols: 2, At: at[:4]}, {Rows: 2, Cols: 3, At: at}, {Rows: 6, Cols: 1, At: at}} {
 		given := []span{spanOf(limbs), spanOf(at), spanOf(ints), spanOf(rows)}
-		for name, call := range matCalls() {
+		for name, call := range calls {
 			for _, other := range []impl.Mat{m, {Rows: m.Cols, Cols: m.Rows, At: m.At}, impl.One(m.Cols)} {
 				c := matCall{m, other, rows, 3}
 				first := call(c)
@@ -1327,7 +1341,7 @@ func TestMatricesShareNoMemoryWhereArgumentsDo(t *testing.T) {
 					t.Errorf("%s of %s shares memory", name, clipped(c))
 				}
 				first.overwrite()
-				if !sameMatAnswer(call(c), want) || !slices.Equal(limbs, []uint32{5, 6, 7, 7}) || !slices.Equal(ints, []int{4, 5, 6, 7}) {
+				if !sameMatAnswer(call(c), want) || !slices.Equal(limbs, kept) || !slices.Equal(ints, []int{4, 5, 6, 7}) {
 					t.Fatalf("%s of %s: what is told is the arguments' own", name, clipped(c))
 				}
 			}
